@@ -1,0 +1,49 @@
+package syntax
+
+import (
+	"reflect"
+	"testing"
+
+	"rummage/api"
+)
+
+func num(n int) api.Value { return api.Value{Kind: api.Number, N: n} }
+
+func str(s string) api.Value { return api.Value{Kind: api.String, S: s} }
+
+func test(name, operator string, literals ...api.Value) Tree {
+	return Tree{Kind: Test, Name: name, Operator: operator, Literals: literals}
+}
+
+func tree(kind Kind, parts ...Tree) Tree { return Tree{Kind: kind, Parts: parts} }
+
+func TestReadTree(t *testing.T) {
+	a, b, c := test("a", "=", num(-7)), test("b", "is"), test("c", "like", str("x"))
+	for _, k := range []struct {
+		filter string
+		want   Tree
+	}{
+		{`a = -07`, a},
+		{`a in (1, "", -0)`, test("a", "in", num(1), str(""), num(0))},
+		{`not ((b is null))`, tree(Not, b)},
+		{`a = -7 or b is null and c like "x"`, tree(Or, a, tree(And, b, c))},
+		{`(a = -7 or b is null) and c like "x"`, tree(And, tree(Or, a, b), c)},
+		{`a = -7 or (b is null or c like "x")`, tree(Or, a, tree(Or, b, c))},
+		{`(a = -7 and b is null) and c like "x"`, tree(And, tree(And, a, b), c)},
+		{`not (a = -7 or b is null) or c like "x"`, tree(Or, tree(Not, tree(Or, a, b)), c)},
+	} {
+		got, errno, at := Read(k.filter)
+		if !reflect.DeepEqual(got, k.want) || errno != api.OK || at != 0 {
+			t.Errorf("Read(%q) = %v, %d, %d, want %v", k.filter, got, errno, at, k.want)
+		}
+	}
+}
+
+func TestReadGivesNoTreeWithAnError(t *testing.T) {
+	for _, filter := range []string{"", "a = 1 b", "(a = 1", "a in (1", "not a", "(((((((a = 1"} {
+		got, errno, _ := Read(filter)
+		if !reflect.DeepEqual(got, Tree{}) || errno == api.OK {
+			t.Errorf("Read(%q) = %v, %d, want no tree and an error", filter, got, errno)
+		}
+	}
+}
