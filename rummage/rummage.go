@@ -2,7 +2,10 @@
 package rummage
 
 import (
+	"strings"
+
 	"rummage/api"
+	"rummage/shelf"
 	"rummage/syntax"
 )
 
@@ -16,19 +19,54 @@ func Plain(filter string) (string, api.Errno, int) {
 }
 
 // Store keeps things.
-type Store struct{}
+type Store struct {
+	fields []api.Field
+	space  int
+	shelf  *shelf.Shelf
+}
 
 // New makes a store (P5).
-func New(fields []api.Field, space int) (*Store, api.Errno) { return nil, api.OK }
+func New(fields []api.Field, space int) (*Store, api.Errno) {
+	if errno := checkNew(fields, space); errno != api.OK {
+		return nil, errno
+	}
+	return &Store{fields: ownFields(fields), space: space, shelf: shelf.New()}, api.OK
+}
+
+// ownFields clones the names too, for what is handed in is not kept.
+func ownFields(fields []api.Field) []api.Field {
+	var own []api.Field
+	for _, field := range fields {
+		own = append(own, api.Field{Name: strings.Clone(field.Name), Kind: field.Kind})
+	}
+	return own
+}
 
 // Put keeps a thing (P6).
-func (s *Store) Put(id int, spot []int, values []api.Value) api.Errno { return api.OK }
+func (s *Store) Put(id int, spot []int, values []api.Value) api.Errno {
+	if errno := s.checkPut(id, spot, values); errno != api.OK {
+		return errno
+	}
+	s.shelf.Put(id, shelf.Thing{Spot: spot, Values: values})
+	return api.OK
+}
 
 // Drop forgets a thing (P6).
-func (s *Store) Drop(id int) api.Errno { return api.OK }
+func (s *Store) Drop(id int) api.Errno {
+	if !s.shelf.Drop(id) {
+		return api.ErrNone
+	}
+	return api.OK
+}
 
 // Get tells a thing (P6).
-func (s *Store) Get(id int) ([]int, []api.Value, api.Errno) { return nil, nil, api.OK }
+func (s *Store) Get(id int) ([]int, []api.Value, api.Errno) {
+	thing, ok := s.shelf.Get(id)
+	if !ok {
+		return nil, nil, api.ErrNone
+	}
+	return thing.Spot, thing.Values, api.OK
+}
 
 // Select tells the things that meet a filter (P7).
 func (s *Store) Select(filter string) ([]int, api.Errno, int) { return nil, api.OK, 0 }

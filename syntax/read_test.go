@@ -47,3 +47,16 @@ func TestReadGivesNoTreeWithAnError(t *testing.T) {
 		}
 	}
 }
+
+func TestIsName(t *testing.T) {
+	for _, text := range []string{"a", "z", "abcdefgh", "nota", "lik", "nulls"} {
+		if !IsName(text) {
+			t.Errorf("IsName(%q) = false", text)
+		}
+	}
+	for _, text := range []string{"", " ", " a", "a ", "a b", "a=", "abcdefghi", "A", "a1", "1", `"a"`, "=", "and", "or", "not", "in", "like", "is", "null", "\xff"} {
+		if IsName(text) {
+			t.Errorf("IsName(%q) = true", text)
+		}
+	}
+}

@@ -110,6 +110,12 @@ func isLetter(b byte) bool { return 'a' <= b && b <= 'z' }
 
 func isDigit(b byte) bool { return '0' <= b && b <= '9' }
 
+// IsName tells whether the whole text is a name.
+func IsName(text string) bool {
+	t := tokenFrom(text, 0)
+	return t.isName() && t.text == text
+}
+
 // isName tells whether a test may begin with the token.
 func (t token) isName() bool {
 	if t.kind != word {
