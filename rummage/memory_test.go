@@ -136,3 +136,115 @@ func TestP2StoresBesideOneAnother(t *testing.T) {
 	wantThing(t, two, 2, []int{2, 2}, num(1), str("one"))
 	wantThing(t, other, 1, []int{3}, str("other"), num(3))
 }
+
+func TestP2FindingWritesIntoNothingHandedIn(t *testing.T) {
+	s := examples(t)
+	whole := []int{3, 3, 77, 78}
+	for range 3 {
+		for most := range 5 {
+			s.Nearest(everything, whole[:2], most)
+			s.Nearest(`x = 1`, whole[:2], most)
+			s.Nearest(everything, whole[:1], most)
+			s.Nearest(everything, whole, most)
+		}
+	}
+	if !slices.Equal(whole, []int{3, 3, 77, 78}) {
+		t.Errorf("now %v", whole)
+	}
+}
+
+func TestP2FindingKeepsNothingHandedIn(t *testing.T) {
+	fields, wholeFields, spot, _, values, _ := pieces()
+	s := newStore(t, 2, fields...)
+	wantPut(t, s, api.OK, 1, spot, values...)
+	for i := range wholeFields {
+		wholeFields[i] = api.Field{Name: "x", Kind: api.Number}
+	}
+	scribble(spot, values)
+	wantSelect(t, s, `n = 3 and s = "x"`, 1)
+	wantSelect(t, s, `n > 2 and s like "x"`, 1)
+	wantNoFind(t, s, `x = 1`, api.ErrName, 0)
+	wantNoFind(t, s, `s = 1`, api.ErrKind, 4)
+	asked := []int{0, 0}
+	hits, _, _ := s.Nearest(everything, asked, 9)
+	asked[0], asked[1] = 9, 9
+	if !slices.Equal(hits, []api.Hit{hit(1, 5)}) {
+		t.Errorf("the hits have become %v", hits)
+	}
+	wantNearest(t, s, everything, []int{0, 0}, 9, hit(1, 5))
+}
+
+// scribbleFound writes all over what came out, its spare room too.
+func scribbleFound(list []int, hits []api.Hit) {
+	for i := range list[:cap(list)] {
+		list[:cap(list)][i] = -999
+	}
+	for i := range hits[:cap(hits)] {
+		hits[:cap(hits)][i] = hit(-999, -999)
+	}
+}
+
+func TestP2WhatIsFoundIsTheCallers(t *testing.T) {
+	s := examples(t)
+	ask := func(most int) ([]int, []api.Hit) {
+		list, _, _ := s.Select(everything)
+		hits, _, _ := s.Nearest(everything, []int{0, 0}, most)
+		return list, hits
+	}
+	all := []api.Hit{hit(1, 0), hit(3, 0), hit(2, 25)}
+	for most := range 5 {
+		want := all[:min(most, 3)]
+		var lists [][]int
+		var hits [][]api.Hit
+		for range 4 {
+			a, b := ask(most)
+			lists, hits = append(lists, a), append(hits, b)
+		}
+		for i := range lists {
+			scribbleFound(lists[i], hits[i])
+			for j := i + 1; j < len(lists); j++ {
+				if !slices.Equal(lists[j], []int{1, 2, 3}) || !slices.Equal(hits[j], want) {
+					t.Errorf("with %d, lists have become %v, %v", most, lists[j], hits[j])
+				}
+			}
+			wantSelect(t, s, everything, 1, 2, 3)
+			wantNearest(t, s, everything, []int{0, 0}, most, want...)
+		}
+	}
+	wantThing(t, s, 2, []int{3, 4}, null, str("b"))
+}
+
+func TestP2WhatIsFoundStays(t *testing.T) {
+	s := examples(t)
+	list, _, _ := s.Select(everything)
+	hits, _, _ := s.Nearest(everything, []int{0, 0}, 2)
+	wantPut(t, s, api.OK, 0, []int{0, 0}, null, null)
+	wantPut(t, s, api.OK, 1, []int{9, 9}, null, null)
+	wantDrop(t, s, 3)
+	if !slices.Equal(list, []int{1, 2, 3}) || !slices.Equal(hits, []api.Hit{hit(1, 0), hit(3, 0)}) {
+		t.Errorf("lists have become %v, %v", list, hits)
+	}
+}
+
+func TestP2FindingInStoresBesideOneAnother(t *testing.T) {
+	one, two := newStore(t, 1, numberField("n")), newStore(t, 1, numberField("n"))
+	other := newStore(t, 2, stringField("n"), numberField("m"))
+	wantPut(t, one, api.OK, 1, []int{1}, num(1))
+	wantPut(t, two, api.OK, 2, []int{2}, num(1))
+	wantPut(t, other, api.OK, 3, []int{3, 3}, str("1"), num(1))
+	wantSelect(t, one, `n = 1`, 1)
+	wantSelect(t, two, `n = 1`, 2)
+	wantSelect(t, other, `n = "1"`, 3)
+	wantNoFind(t, one, `m = 1`, api.ErrName, 0)
+	wantNoFind(t, one, `n = "1"`, api.ErrKind, 4)
+	wantNoFind(t, other, `n = 1`, api.ErrKind, 4)
+	wantNearest(t, one, everything, []int{0}, 9, hit(1, 1))
+	wantNearest(t, two, everything, []int{0}, 9, hit(2, 4))
+	wantNearest(t, other, everything, []int{0, 0}, 9, hit(3, 18))
+	wantArg(t, one, everything, []int{0, 0}, 9)
+	wantArg(t, other, everything, []int{0}, 9)
+	wantDrop(t, two, 2)
+	wantSelect(t, two, everything)
+	wantSelect(t, one, everything, 1)
+	wantSelect(t, other, everything, 3)
+}

@@ -2,10 +2,14 @@
 package rummage
 
 import (
+	"cmp"
+	"slices"
 	"strings"
 
 	"rummage/api"
+	"rummage/ids"
 	"rummage/shelf"
+	"rummage/sieve"
 	"rummage/syntax"
 )
 
@@ -69,9 +73,50 @@ func (s *Store) Get(id int) ([]int, []api.Value, api.Errno) {
 }
 
 // Select tells the things that meet a filter (P7).
-func (s *Store) Select(filter string) ([]int, api.Errno, int) { return nil, api.OK, 0 }
+func (s *Store) Select(filter string) ([]int, api.Errno, int) {
+	found, errno, at := s.find(filter)
+	if errno != api.OK {
+		return nil, errno, at
+	}
+	return found.Numbers(), api.OK, 0
+}
 
 // Nearest tells which of those are nearest to a spot (P8).
 func (s *Store) Nearest(filter string, spot []int, most int) ([]api.Hit, api.Errno, int) {
-	return nil, api.OK, 0
+	if !isSpot(spot, s.space) || most < 0 {
+		return nil, api.ErrArg, 0
+	}
+	found, errno, at := s.find(filter)
+	if errno != api.OK {
+		return nil, errno, at
+	}
+	hits := s.hits(found, spot)
+	return hits[:min(most, len(hits))], api.OK, 0
+}
+
+// find gives the numbers of the things that meet a filter, or the error and
+// its place.
+func (s *Store) find(filter string) (ids.Set, api.Errno, int) {
+	tree, errno, at := syntax.Read(filter)
+	if errno != api.OK {
+		return ids.Set{}, errno, at
+	}
+	if errno, at := sieve.Check(tree, s.fields); errno != api.OK {
+		return ids.Set{}, errno, at
+	}
+	return sieve.Sift(tree, s.fields, s.shelf), api.OK, 0
+}
+
+// hits tells how far the things lie from a spot, the nearest first.
+func (s *Store) hits(found ids.Set, spot []int) []api.Hit {
+	var hits []api.Hit
+	for _, id := range found.Numbers() {
+		hits = append(hits, api.Hit{ID: id, Far: s.shelf.Far(id, spot)})
+	}
+	slices.SortFunc(hits, nearer)
+	return hits
+}
+
+func nearer(a, b api.Hit) int {
+	return cmp.Or(cmp.Compare(a.Far, b.Far), cmp.Compare(a.ID, b.ID))
 }

@@ -77,6 +77,42 @@ func (s *Shelf) Get(id int) (Thing, bool) {
 	return thing.copied(), true
 }
 
+// All gives the numbers of all things.
+func (s *Shelf) All() ids.Set {
+	var all ids.Set
+	for id := range s.things {
+		all = all.With(id)
+	}
+	return all
+}
+
+// Having gives the numbers of the things that have just this value in a
+// field. A value is always written the same way, so that == finds it.
+func (s *Shelf) Having(field int, value api.Value) ids.Set {
+	return s.holders[held{field, value}]
+}
+
+// Where gives the numbers of the things whose value in a field is not Null
+// and meets the condition.
+func (s *Shelf) Where(field int, meets func(api.Value) bool) ids.Set {
+	var found ids.Set
+	for key, holders := range s.holders {
+		if key.field == field && key.value.Kind != api.Null && meets(key.value) {
+			found = found.Or(holders)
+		}
+	}
+	return found
+}
+
+// Far tells how far a thing that is there lies from a spot of its space.
+func (s *Shelf) Far(id int, spot []int) int {
+	far := 0
+	for i, n := range s.things[id].Spot {
+		far += (n - spot[i]) * (n - spot[i])
+	}
+	return far
+}
+
 // copied clones the strings too: one may be a piece of a far longer text,
 // which would be kept along with it.
 func (t Thing) copied() Thing {

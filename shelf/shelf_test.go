@@ -87,3 +87,61 @@ func TestStringsAreCopied(t *testing.T) {
 		}
 	}
 }
+
+func TestAskingForThings(t *testing.T) {
+	s := New()
+	if s.All() != set() || s.Having(0, num(1)) != set() || s.Where(0, always) != set() {
+		t.Errorf("an empty shelf has things")
+	}
+	s.Put(0, Thing{[]int{0}, []api.Value{num(1), str("b")}})
+	s.Put(64, Thing{[]int{0}, []api.Value{num(2), {}}})
+	s.Put(api.MaxID, Thing{[]int{0}, []api.Value{{}, str("")}})
+	s.Put(9, Thing{[]int{0}, []api.Value{num(9), str("9")}})
+	s.Put(9, Thing{[]int{0}, []api.Value{num(2), str("b")}})
+	s.Put(10, Thing{[]int{0}, []api.Value{num(10), str("10")}})
+	s.Drop(10)
+	above := func(v api.Value) bool { return v.N > 1 }
+	for i, c := range []struct{ got, want ids.Set }{
+		{s.All(), set(0, 9, 64, api.MaxID)},
+		{s.Having(0, num(1)), set(0)},
+		{s.Having(0, num(2)), set(9, 64)},
+		{s.Having(0, num(9)), set()},
+		{s.Having(0, num(10)), set()},
+		{s.Having(0, api.Value{}), set(api.MaxID)},
+		{s.Having(1, api.Value{}), set(64)},
+		{s.Having(1, str("")), set(api.MaxID)},
+		{s.Having(1, str("b")), set(0, 9)},
+		{s.Having(1, num(2)), set()},
+		{s.Where(0, always), set(0, 9, 64)},
+		{s.Where(1, always), set(0, 9, api.MaxID)},
+		{s.Where(2, always), set()},
+		{s.Where(0, above), set(9, 64)},
+		{s.Where(1, above), set()},
+	} {
+		if c.got != c.want {
+			t.Errorf("row %d: %v, want %v", i, c.got.Numbers(), c.want.Numbers())
+		}
+	}
+}
+
+func always(api.Value) bool { return true }
+
+func TestFar(t *testing.T) {
+	for _, c := range []struct {
+		a, b []int
+		want int
+	}{
+		{[]int{0}, []int{0}, 0},
+		{[]int{-3}, []int{4}, 49},
+		{[]int{3, 4}, []int{0, 1}, 18},
+		{[]int{1, 2, 3}, []int{2, 0, 6}, 14},
+		{[]int{1000, -1000, 1000, -1000}, []int{-1000, 1000, -1000, 1000}, 16000000},
+	} {
+		s := New()
+		s.Put(5, Thing{c.a, nil})
+		s.Put(6, Thing{c.b, nil})
+		if there, back := s.Far(5, c.b), s.Far(6, c.a); there != c.want || back != c.want {
+			t.Errorf("%v and %v are %d and %d far, want %d", c.a, c.b, there, back, c.want)
+		}
+	}
+}

@@ -73,17 +73,17 @@ func (w *writer) test(t Tree) {
 	case "is":
 		w.token("null")
 	default:
-		w.token(literal(t.Literals[0]))
+		w.token(literal(t.Literals[0].Value))
 	}
 }
 
-func (w *writer) list(literals []api.Value) {
+func (w *writer) list(literals []Literal) {
 	w.token("(")
-	for i, value := range literals {
+	for i, l := range literals {
 		if i > 0 {
 			w.token(",")
 		}
-		w.token(literal(value))
+		w.token(literal(l.Value))
 	}
 	w.token(")")
 }

@@ -1,10 +1,6 @@
 package syntax
 
-import (
-	"strconv"
-
-	"rummage/api"
-)
+import "rummage/api"
 
 // reader holds one token at a time: the next is looked at only when the one
 // at hand has been taken, so that the first fault is the one that is told.
@@ -125,23 +121,27 @@ func (r *reader) test() (Tree, bool) {
 	if !r.now.isName() {
 		return r.refuse(api.ErrText)
 	}
-	test := Tree{Kind: Test, Name: r.take().text}
+	name := r.take()
 	read := r.afterName()
 	if read == nil {
 		return r.refuse(api.ErrText)
 	}
-	test.Operator = r.take().text
+	operator := r.take()
 	literals, ok := read()
 	if !ok {
 		return r.refuse(api.ErrText)
 	}
-	test.Literals = literals
-	return test, true
+	return Tree{
+		Kind: Test,
+		Name: name.text, NameAt: name.at,
+		Operator: operator.text, OperatorAt: operator.at,
+		Literals: literals,
+	}, true
 }
 
 // afterName picks, by the token at hand, how a test goes on behind it; nil if
 // no test goes on so.
-func (r *reader) afterName() func() ([]api.Value, bool) {
+func (r *reader) afterName() func() ([]Literal, bool) {
 	switch r.now.text {
 	case "in":
 		return r.list
@@ -157,51 +157,46 @@ func (r *reader) afterName() func() ([]api.Value, bool) {
 }
 
 // list reads the brackets of an "in", and the literals between them.
-func (r *reader) list() ([]api.Value, bool) {
+func (r *reader) list() ([]Literal, bool) {
 	if !r.takeIf("(") {
 		return nil, false
 	}
-	var literals []api.Value
+	var literals []Literal
 	for {
-		value, ok := r.literal()
+		literal, ok := r.literal()
 		if !ok {
 			return nil, false
 		}
-		literals = append(literals, value)
+		literals = append(literals, literal)
 		if !r.takeIf(",") {
 			return literals, r.takeIf(")")
 		}
 	}
 }
 
-func (r *reader) prefix() ([]api.Value, bool) {
+func (r *reader) prefix() ([]Literal, bool) {
 	if r.now.kind != quoted {
 		return nil, false
 	}
 	return r.single()
 }
 
-func (r *reader) null() ([]api.Value, bool) {
+func (r *reader) null() ([]Literal, bool) {
 	return nil, r.takeIf("null")
 }
 
-func (r *reader) single() ([]api.Value, bool) {
-	value, ok := r.literal()
+func (r *reader) single() ([]Literal, bool) {
+	literal, ok := r.literal()
 	if !ok {
 		return nil, false
 	}
-	return []api.Value{value}, true
+	return []Literal{literal}, true
 }
 
-func (r *reader) literal() (api.Value, bool) {
-	switch r.now.kind {
-	case number:
-		// No more than maxDigits digits, so that this cannot fail.
-		n, _ := strconv.Atoi(r.take().text)
-		return api.Value{Kind: api.Number, N: n}, true
-	case quoted:
-		text := r.take().text
-		return api.Value{Kind: api.String, S: text[1 : len(text)-1]}, true
+func (r *reader) literal() (Literal, bool) {
+	if r.now.kind != number && r.now.kind != quoted {
+		return Literal{}, false
 	}
-	return api.Value{}, false
+	t := r.take()
+	return Literal{Value: t.value(), At: t.at}, true
 }

@@ -1,6 +1,7 @@
 package syntax
 
 import (
+	"strconv"
 	"strings"
 
 	"rummage/api"
@@ -135,4 +136,14 @@ func (t token) compares() bool {
 		return true
 	}
 	return false
+}
+
+// value gives what a number or a quoted string says.
+func (t token) value() api.Value {
+	if t.kind == number {
+		// No more than maxDigits digits, so that this cannot fail.
+		n, _ := strconv.Atoi(t.text)
+		return api.Value{Kind: api.Number, N: n}
+	}
+	return api.Value{Kind: api.String, S: t.text[1 : len(t.text)-1]}
 }

@@ -16,15 +16,25 @@ const (
 )
 
 // Tree is a filter without its brackets. An Or and an And have two parts or
-// more, a Not has one. A Test has no parts but a name, an operator (a sign,
-// "in", "like" or "is") and literals: as many as there are behind an "in",
-// none behind an "is", else one.
+// more, in the order of the text, a Not has one. A Test has no parts but a
+// name, an operator (a sign, "in", "like" or "is") and literals: as many as
+// there are behind an "in", none behind an "is", else one. The places, of
+// first bytes in the text, are for who finds a fault there that hangs on more
+// than the text.
 type Tree struct {
-	Kind     Kind
-	Parts    []Tree
-	Name     string
-	Operator string
-	Literals []api.Value
+	Kind       Kind
+	Parts      []Tree
+	Name       string
+	NameAt     int
+	Operator   string
+	OperatorAt int
+	Literals   []Literal
+}
+
+// Literal: its value, and its place in the text.
+type Literal struct {
+	Value api.Value
+	At    int
 }
 
 // join makes one tree of those that stand side by side; one alone stays as
